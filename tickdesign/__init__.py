@@ -1,0 +1,1 @@
+"""Exact design of controllers that run by ticks; the way in is tickdesign.desk."""
