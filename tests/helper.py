@@ -8,7 +8,7 @@ from tickdesign.desk import answers
 
 LIMIT = 10 ** 40
 FAR = 10 ** 41
-PLAIN, JOIN, TUSTIN, RESPONSE, PLACE = 1, 2, 3, 4, 5
+PLAIN, JOIN, TUSTIN, RESPONSE, PLACE, OBSERVE, REALIZE, TRANSFER, SETTLES = range(1, 10)
 TIMES, PLUS, BACK = 0, 1, 2
 
 
@@ -134,6 +134,38 @@ def determinant(rows):
     return found
 
 
+def transposed(rows):
+    return [list(column) for column in zip(*rows)]
+
+
+def chain(size):
+    """Each state is handed on to the one before it; the last one is fed."""
+    return [[1 if k == i + 1 else 0 for k in range(size)] for i in range(size)], [0] * (size - 1) + [1]
+
+
+def reaches(a, b):
+    """Whether b, a b, a a b, .. beside each other have the full rank."""
+    vectors = [[[Fraction(entry)] for entry in b]]
+    while len(vectors) < len(a):
+        vectors.append(matrix_times(a, vectors[-1]))
+    return determinant([[entry[0] for entry in vector] for vector in vectors]) != 0
+
+
+def states(a, b, c, d):
+    """The four lists of states, from rows, a column, a row and a number."""
+    return [told(a), column(b), told([c]), told([[d]])]
+
+
+def run_states(a, b, c, d, inputs):
+    """What states answer to inputs, tick by tick."""
+    x = [Fraction(0)] * len(a)
+    outputs = []
+    for u in inputs:
+        outputs.append(sum(one * other for one, other in zip(c, x)) + d * Fraction(u))
+        x = [sum(one * other for one, other in zip(row, x)) + fed * Fraction(u) for row, fed in zip(a, b)]
+    return outputs
+
+
 def value(numbers, z):
     return sum((Fraction(number) * z ** power for power, number in enumerate(numbers)), Fraction(0))
 
@@ -174,12 +206,27 @@ class Case(unittest.TestCase):
         self.assertEqual(len(entries), rows * columns)
         return [entries[row * columns:(row + 1) * columns] for row in range(rows)]
 
-    def worth(self, answer, top, bottom):
-        """The answer is the one plain transfer function that is worth top over bottom."""
+    def plain_of(self, answer):
+        """Top and bottom of an answer that has to be a plain transfer function."""
         self.assertEqual(answer[0], 0)
-        above, below = self.matrix_of(answer, 2, answer[2])
-        self.assertEqual(times(above, bottom), times(top, below))
-        above, below = trim(above), trim(below)
+        above, below = [trim(row) for row in self.matrix_of(answer, 2, answer[2])]
         self.assertEqual(answer[2], max(len(above), len(below)))
         self.assertEqual(below[-1], 1)
         self.assertEqual(len(common(above, below)), 1)
+        return above, below
+
+    def worth(self, answer, top, bottom):
+        """The answer is the one plain transfer function that is worth top over bottom."""
+        above, below = self.plain_of(answer)
+        self.assertEqual(times(above, bottom), times(top, below))
+
+    def runs(self, top, bottom, inputs, outputs):
+        """Inputs and outputs fulfil the sums of the document; top over bottom has to be without common divisors."""
+        self.assertEqual(len(outputs), len(inputs))
+        degree = len(bottom) - 1
+        self.assertLessEqual(len(top), degree + 1)
+        top = list(top) + [0] * (degree + 1 - len(top))
+        for t in range(len(inputs)):
+            back = range(min(t, degree) + 1)
+            self.assertEqual(sum(bottom[degree - k] * outputs[t - k] for k in back),
+                             sum(top[degree - k] * Fraction(inputs[t - k]) for k in back))

@@ -15,9 +15,9 @@ ArithmeticError OverflowError RuntimeError NotImplementedError AttributeError St
 METHODS = set("""append clear copy count endswith extend find get index insert isalnum isalpha isdigit islower isspace
 isupper items join keys ljust lower lstrip partition pop remove replace reverse rfind rjust rpartition rsplit rstrip
 setdefault split splitlines startswith strip update upper values zfill bit_length""".split())
-NOT_AS_NAMES = set("""register mro elements open input version_info with_traceback add_note attrgetter breakpoint builtins
-compile copyright credits delattr dir eval exec exit gc getattr globals hasattr help id importlib license locals
-methodcaller os quit setattr super type vars sys""".split())
+NOT_AS_NAMES = set("""register mro elements open input version_info with_traceback add_note attrgetter breakpoint
+builtins compile copyright credits delattr dir eval exec exit gc getattr globals hasattr help id importlib license
+locals methodcaller os quit setattr super type vars sys""".split())
 NOT_AS_WORDS = re.compile(r"""\b(type|typing|typing_extensions|enum|Enum|IntEnum|StrEnum|Flag|IntFlag|Generic|Protocol
 |ABC|ABCMeta|namedtuple|NamedTuple|TypedDict|TYPE_CHECKING|abstractmethod)\b|dataclass|overload|contextmanager""", re.X)
 STATEMENTS = (ast.Assign, ast.AugAssign, ast.If, ast.While, ast.For, ast.Return, ast.Break, ast.Continue, ast.Pass,

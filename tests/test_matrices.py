@@ -1,7 +1,7 @@
 """What is a matrix and what is not, for each list of each call."""
 
-from helper import (BACK, FAR, JOIN, LIMIT, PLACE, PLAIN, PLUS, RESPONSE, TIMES, TUSTIN, Case, ask, call, column, signal,
-                    split_answers, told, transfer)
+from helper import (BACK, FAR, JOIN, LIMIT, OBSERVE, PLACE, PLAIN, PLUS, REALIZE, RESPONSE, SETTLES, TIMES, TRANSFER,
+                    TUSTIN, Case, ask, call, column, signal, split_answers, states, told, transfer)
 from tickdesign.desk import answers
 
 ONE = transfer([1], [1])
@@ -14,6 +14,10 @@ GOOD_CALLS = [
     ([TUSTIN, 1, 1, STEP], [3]),
     ([RESPONSE, STEP, signal([1, 2])], [1]),
     ([PLACE, told([[2]]), told([[3]]), told([[5, 1]])], [1, 2, 3]),
+    ([OBSERVE, told([[2]]), told([[3]]), told([[5, 1]])], [1, 2, 3]),
+    ([REALIZE, STEP], [1]),
+    ([TRANSFER] + states([[2]], [3], [5], 7), [1, 2, 3, 4]),
+    ([SETTLES, STEP], [1]),
 ]
 
 NO_MATRICES = [
@@ -87,6 +91,10 @@ class Granted(Case):
         nine = told([[1] * 9] * 9)
         self.refused(-1, ask(PLAIN, nine))
         self.refused(-1, ask(PLACE, nine, told([[1]] * 9), told([[1] * 9])))
+        self.refused(-1, ask(OBSERVE, nine, told([[1] * 9]), told([[1] * 9])))
+        self.refused(-1, ask(REALIZE, nine))
+        self.refused(-1, ask(TRANSFER, nine, told([[1]] * 9), told([[1] * 9]), told([[1]])))
+        self.refused(-1, ask(SETTLES, nine))
 
     def test_entries_as_large_as_may_be(self):
         most = LIMIT - 1
@@ -100,11 +108,23 @@ class Granted(Case):
                               ((LIMIT, 1), -6), ((-LIMIT, 1), -6), ((1, LIMIT), -6), ((0, LIMIT), -6), ((0, 0), -6)):
             self.assertEqual(ask(PLAIN, transfer([entry], [1]))[0], answer)
             self.assertEqual(ask(RESPONSE, ONE, list(entry))[0], answer)
+            self.assertEqual(ask(OBSERVE, told([[entry]]), told([[1]]), told([[0, 1]]))[0], answer)
+            self.assertEqual(ask(REALIZE, transfer([1], [entry, 1]))[0], answer)
+            self.assertEqual(ask(SETTLES, transfer([1], [entry, 1]))[0], answer)
+            for place in range(4):
+                four = [told([[1]])] * 4
+                four[place] = told([[entry]])
+                self.assertEqual(ask(TRANSFER, *four)[0], answer)
 
     def test_lowest_terms(self):
         self.assertEqual(ask(PLAIN, transfer([(6, 4)], [(10, 5)])), [0, 2, 1, 3, 4, 1, 1])
         self.assertEqual(ask(RESPONSE, transfer([(6, 4)], [(3, 3)]), [-10, 15, 0, 7]), [0, -1, 1, 0, 1])
         self.assertEqual(ask(PLACE, told([[(4, 8)]]), told([[(6, 9)]]), told([[(0, 5), (7, 7)]])), [0, 1, 1, 3, 4])
+        self.assertEqual(ask(OBSERVE, told([[(4, 8)]]), told([[(6, 9)]]), told([[(0, 5), (7, 7)]])), [0, 1, 1, 3, 4])
+        self.assertEqual(ask(REALIZE, transfer([(6, 4)], [(10, 4), (3, 3)])),
+                         [0, 1, 1, -5, 2, 1, 1, 1, 1, 1, 1, 3, 2, 1, 1, 0, 1])
+        self.assertEqual(ask(TRANSFER, *states([[(4, 8)]], [(6, 9)], [(9, 6)], (0, 7))),
+                         [0, 2, 2, 1, 1, 0, 1, -1, 2, 1, 1])
 
 
 class Order(Case):
@@ -124,6 +144,31 @@ class Order(Case):
         self.refused(-6, ask(PLACE, told([[1, 2]]), told([[1]]), broken))
         self.refused(-6, ask(PLACE, told([[1, 2]]), broken, told([[1]])))
         self.refused(-6, ask(PLACE, broken, told([[1, 2]]), told([[1]])))
+        self.refused(-6, ask(OBSERVE, told([[1, 2]]), told([[1]]), broken))
+        self.refused(-6, ask(OBSERVE, told([[1, 2]]), broken, told([[1]])))
+        self.refused(-6, ask(OBSERVE, broken, told([[1, 2]]), told([[1]])))
+
+    def test_no_matrix_comes_before_not_fitting_in_one_list(self):
+        # One row, three rows, a bottom of 0, one that can't be run, a bottom of degree 0: each with an entry amiss.
+        wrongs = [told([[1, (1, 0)]]), told([[1], [1], [(LIMIT, 1)]]), transfer([(1, 0)], [0]), transfer([1], [(0, 0)]),
+                  transfer([1, 1], [1, (0, -1)]), transfer([(LIMIT, 1)], [1])]
+        for wrong in wrongs:
+            for number in (PLAIN, REALIZE, SETTLES):
+                self.refused(-6, ask(number, wrong))
+
+    def test_no_matrix_comes_before_shapes_that_do_not_fit(self):
+        # Each list that is none, with each other one that doesn't fit: before it and behind it.
+        for number, right in ((PLACE, [told([[2]]), told([[3]]), told([[5, 1]])]),
+                              (OBSERVE, [told([[2]]), told([[3]]), told([[5, 1]])]),
+                              (TRANSFER, states([[2]], [3], [5], 7))):
+            self.assertEqual(ask(number, *right)[0], 0)
+            for shaped in range(len(right)):
+                lists = list(right)
+                lists[shaped] = told([[1, 2], [3, 4], [5, 6]])
+                self.refused(-1, ask(number, *lists))
+                for place in range(len(right)):
+                    for broken in ([], [1, 1, 1], [1, 1, 1, 0], [1, 1, LIMIT, 1], [10, 1] + [1, 1] * 10):
+                        self.refused(-6, ask(number, *(lists[:place] + [broken] + lists[place + 1:])))
 
     def test_not_fitting_comes_before_not_possible(self):
         minus = transfer([-1], [1])
@@ -134,6 +179,13 @@ class Order(Case):
         self.refused(-4, ask(PLACE, still, column([1, 1]), told([[0, 0, 1]])))
         self.refused(-1, ask(PLACE, still, column([1, 1]), told([[0, 0, 2]])))
         self.refused(-1, ask(PLACE, still, column([1, 1, 1]), told([[0, 0, 1]])))
+        self.refused(-4, ask(OBSERVE, still, told([[1, 1]]), told([[0, 0, 1]])))
+        self.refused(-1, ask(OBSERVE, still, told([[1, 1]]), told([[0, 0, 2]])))
+        self.refused(-1, ask(OBSERVE, still, told([[1, 1]]), told([[0, 0, 1], [0, 0, 1]])))
+        self.refused(-1, ask(OBSERVE, still, told([[0, 0, 0]]), told([[0, 0, 1]])))
+        nine = told([[0] * 9] * 9)
+        self.refused(-1, ask(PLACE, nine, column([0] * 9), told([[0] * 8 + [1]])))
+        self.refused(-1, ask(OBSERVE, nine, told([[0] * 9]), told([[0] * 8 + [1]])))
 
     def test_too_many_places_come_behind_not_possible(self):
         long = [3, 1, 4, 1, 5, 9, 2, 6, 5]
@@ -142,7 +194,10 @@ class Order(Case):
         self.refused(-1, ask(JOIN, BACK, transfer(long, short), transfer(short, long[::-1])))
 
     def test_no_matrix_comes_before_not_possible(self):
-        self.refused(-6, ask(PLACE, told([[1]]), told([[0]]), []))
+        for number in (PLACE, OBSERVE):
+            self.refused(-4, ask(number, told([[1]]), told([[0]]), told([[0, 1]])))
+            self.refused(-6, ask(number, told([[1]]), told([[0]]), []))
+            self.refused(-6, ask(number, told([[1]]), told([[0]]), told([[0, (1, 0)]])))
         self.refused(-6, ask(JOIN, BACK, ONE, transfer([-1], [(1, LIMIT)])))
 
     def test_refusals_stand_alone_in_a_list(self):

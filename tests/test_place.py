@@ -3,12 +3,7 @@
 import random
 from fractions import Fraction
 
-from helper import LIMIT, PLACE, Case, ask, column, determinant, is_characteristic, matrix_times, product_of, told
-
-
-def chain(size):
-    """Each state is handed on to the one before it; the last one is fed."""
-    return [[1 if k == i + 1 else 0 for k in range(size)] for i in range(size)], [0] * (size - 1) + [1]
+from helper import LIMIT, PLACE, Case, ask, chain, column, is_characteristic, product_of, reaches, told
 
 
 class Place(Case):
@@ -124,14 +119,7 @@ class Place(Case):
             f = [Fraction(source.randint(-4, 4), source.randint(1, 3)) for i in range(size)] + [1]
             answer = ask(PLACE, told(a), column(b), told([f]))
             seen[answer[0]] += 1
-            self.assertEqual(answer[0] == 0, self.reaches(a, b))
+            self.assertEqual(answer[0] == 0, reaches(a, b))
             if answer[0] == 0:
                 self.check(a, b, f)
         self.assertGreater(min(seen.values()), 10)
-
-    def reaches(self, a, b):
-        """Whether b, a b, a a b, .. beside each other have the full rank."""
-        vectors = [[[Fraction(entry)] for entry in b]]
-        while len(vectors) < len(a):
-            vectors.append(matrix_times(a, vectors[-1]))
-        return determinant([[entry[0] for entry in vector] for vector in vectors]) != 0

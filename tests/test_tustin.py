@@ -76,7 +76,8 @@ class Tustin(Case):
 
     def test_9_places(self):
         source = random.Random(5)
-        rows = [[Fraction(source.randrange(1 - LIMIT, LIMIT), source.randrange(1, LIMIT)) for k in range(9)] for i in (0, 1)]
+        rows = [[Fraction(source.randrange(1 - LIMIT, LIMIT), source.randrange(1, LIMIT)) for k in range(9)]
+                for i in (0, 1)]
         self.assertEqual(self.check(LIMIT - 1, LIMIT - 2, rows)[2], 9)
 
     def test_many(self):

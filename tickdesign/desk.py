@@ -1,10 +1,14 @@
 """The way in: a list of calls is answered by a list of whole numbers."""
 
+from tickdesign.feedback import observe_answer
 from tickdesign.feedback import place_answer
 from tickdesign.refusals import NoMatrix
 from tickdesign.refusals import NotFitting
 from tickdesign.refusals import NotPossible
+from tickdesign.settling import settles_answer
 from tickdesign.signals import response_answer
+from tickdesign.states import realize_answer
+from tickdesign.states import transfer_answer
 from tickdesign.transfers import join_answer
 from tickdesign.transfers import plain_answer
 from tickdesign.transfers import tustin_answer
@@ -13,8 +17,12 @@ CALL_PLAIN = 1
 CALL_JOIN = 2
 CALL_TUSTIN = 3
 CALL_RESPONSE = 4
+CALL_PLACE = 5
+CALL_OBSERVE = 6
+CALL_REALIZE = 7
+CALL_TRANSFER = 8
 # By a call's number: how many whole numbers it has, and how many lists behind them.
-LAYOUTS = {1: (0, 1), 2: (1, 2), 3: (2, 1), 4: (0, 2), 5: (0, 3)}
+LAYOUTS = {1: (0, 1), 2: (1, 2), 3: (2, 1), 4: (0, 2), 5: (0, 3), 6: (0, 3), 7: (0, 1), 8: (0, 4), 9: (0, 1)}
 
 
 def answers(calls):
@@ -64,4 +72,12 @@ def told_by(call, numbers, lists):
         return tustin_answer(numbers[0], numbers[1], lists[0])
     if call == CALL_RESPONSE:
         return response_answer(lists[0], lists[1])
-    return place_answer(lists[0], lists[1], lists[2])
+    if call == CALL_PLACE:
+        return place_answer(lists[0], lists[1], lists[2])
+    if call == CALL_OBSERVE:
+        return observe_answer(lists[0], lists[1], lists[2])
+    if call == CALL_REALIZE:
+        return realize_answer(lists[0])
+    if call == CALL_TRANSFER:
+        return transfer_answer(lists[0], lists[1], lists[2], lists[3])
+    return settles_answer(lists[0])

@@ -1,6 +1,9 @@
-"""Feedback that gives a plant the characteristic polynomial one asks for."""
+"""Feedback and observers that give a plant the characteristic polynomial one asks for."""
 
+from tickdesign.matrices import has_shape
+from tickdesign.matrices import is_plant
 from tickdesign.matrices import read_matrix
+from tickdesign.matrices import turned
 from tickdesign.matrices import whole_entries
 from tickdesign.matrices import whole_matrix
 from tickdesign.polynomials import trimmed
@@ -9,23 +12,26 @@ from tickdesign.refusals import NotPossible
 from tickdesign.whole import told_quotients
 from tickdesign.whole import without_content
 
-MOST_STATES = 8
-
 
 def place_answer(a, b, f):
     plant = read_matrix(a)
     feed = read_matrix(b)
     wish = read_matrix(f)
     size = len(plant)
-    if size > MOST_STATES or not has_shape(plant, size, size) or not has_shape(feed, size, 1):
+    if not (is_plant(plant) and has_shape(feed, size, 1) and is_wish(wish, size)):
         raise NotFitting()
-    if not is_wish(wish, size):
-        raise NotFitting()
-    return [1, size] + told_feedback(plant, [row[0] for row in feed], wish[0][:size + 1])
+    return [1, size] + told_feedback(plant, turned(feed)[0], wish[0][:size + 1])
 
 
-def has_shape(rows, height, width):
-    return len(rows) == height and len(rows[0]) == width
+# A matrix turned about has the same characteristic polynomial: so l is k for a' and c', turned about.
+def observe_answer(a, c, f):
+    plant = read_matrix(a)
+    shown = read_matrix(c)
+    wish = read_matrix(f)
+    size = len(plant)
+    if not (is_plant(plant) and has_shape(shown, 1, size) and is_wish(wish, size)):
+        raise NotFitting()
+    return [size, 1] + told_feedback(turned(plant), shown[0], wish[0][:size + 1])
 
 
 # Whether this is one polynomial of just this degree that leads with 1.
@@ -69,7 +75,7 @@ def reached_vectors(matrix, start, wanted):
 
 # w, w a, w a a, ..
 def row_images(row, matrix, wanted):
-    columns = [[line[at] for line in matrix] for at in range(len(matrix))]
+    columns = turned(matrix)
     images = [row]
     while len(images) < wanted:
         images.append([inner_product(images[-1], column) for column in columns])

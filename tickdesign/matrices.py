@@ -4,6 +4,7 @@ from tickdesign.refusals import NoMatrix
 from tickdesign.whole import common_multiple
 
 MOST_ROWS = 9
+MOST_STATES = 8
 # 10 to the power of 40: entries are told by numbers below it in size.
 ENTRY_LIMIT = 10000000000000000000000000000000000000000
 
@@ -49,3 +50,17 @@ def whole_matrix(rows):
         entries.extend(row)
     found = whole_entries(entries)
     return (in_rows(found[0], len(rows[0])), found[1])
+
+
+def has_shape(rows, height, width):
+    return len(rows) == height and len(rows[0]) == width
+
+
+# Whether this can be what takes states to the next ones.
+def is_plant(rows):
+    return len(rows) <= MOST_STATES and has_shape(rows, len(rows), len(rows))
+
+
+# The columns as rows.
+def turned(rows):
+    return [[row[at] for row in rows] for at in range(len(rows[0]))]
